@@ -63,5 +63,5 @@ func (r *reader) sign(c code) int {
 		above -= count
 		shorter += count
 	}
-	panic(ErrPacked)
+	panic(refusal{errno: ErrPacked})
 }

@@ -25,7 +25,10 @@ const (
 type Limits struct{ Steps, Out int }
 
 // Check tells what is wrong with a file (P2).
-func Check(file string) (Errno, int) { return 0, 0 }
+func Check(file string) (Errno, int) {
+	why := answer(func() { write(readDocument(file)) })
+	return why.errno, why.place
+}
 
 // Unpack tells what a packing stands for (P3).
 func Unpack(packed string) (string, Errno) {

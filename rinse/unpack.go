@@ -50,17 +50,16 @@ type unpacker struct {
 	room  func(int) // gives up when more comes out than may
 }
 
-// unpackOrRefuse catches whatever unpack gives up with: what is not known to be a packing is none.
-func unpackOrRefuse(packed string) (plain string, errno Errno) {
-	defer func() {
-		if recover() != nil {
-			plain, errno = "", ErrPacked
-		}
-	}()
-	return unpack(packed), OK
+// unpackOrRefuse takes whatever unpack gives up with for the one error: what is not known to be a packing is none.
+func unpackOrRefuse(packed string) (string, Errno) {
+	plain := ""
+	if why := answer(func() { plain = unpack(packed) }); why.errno != OK {
+		return "", ErrPacked
+	}
+	return plain, OK
 }
 
-// unpack gives up, by a panic with ErrPacked, at what is no packing or stands for too much.
+// unpack gives up at what is no packing or stands for too much.
 func unpack(packed string) string {
 	u := unpacker{reader: newReader(packed), room: allowance(maxPlain, ErrPacked)}
 	for last := false; !last; {
@@ -74,7 +73,7 @@ func unpack(packed string) string {
 // demand gives up unless what a packing must be is so.
 func demand(ok bool) {
 	if !ok {
-		panic(ErrPacked)
+		refuse(ErrPacked, 0)
 	}
 }
 
@@ -87,7 +86,7 @@ func (u *unpacker) block() {
 	case ownBlock:
 		u.signs(u.ownCodes())
 	default:
-		panic(ErrPacked)
+		refuse(ErrPacked, 0)
 	}
 }
 

@@ -425,17 +425,12 @@ func TestUnpackTurnedBits(t *testing.T) {
 	}
 }
 
-// TestUnpackGivesUp: Unpack would hide a fault of its own as a refusal; so what is caught there must be ErrPacked.
+// TestUnpackGivesUp: Unpack would hide a fault of its own as a refusal.
 func TestUnpackGivesUp(t *testing.T) {
 	for packed := range broken(t) {
-		func() {
-			defer func() {
-				if why := recover(); why != nil && why != ErrPacked {
-					t.Errorf("P1: %x: gave up with %v", packed, why)
-				}
-			}()
-			unpack(packed)
-		}()
+		if what := fault(func() { unpack(packed) }); what != nil {
+			t.Errorf("P1: %x: %v", packed, what)
+		}
 	}
 }
 
