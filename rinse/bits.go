@@ -7,16 +7,26 @@ type reader struct {
 	packed string
 	at     int       // the number of the next bit
 	take   func(int) // gives up when fewer bits are left than are taken
+	charge func(int) // for each bit, and for what is made of them
+	why    refusal   // of what is no packing
 }
 
-func newReader(packed string) *reader {
-	return &reader{packed: packed, take: allowance(8*len(packed), ErrPacked)}
+func newReader(packed string, charge func(int), why refusal) *reader {
+	return &reader{packed: packed, take: allowance(8*len(packed), why), charge: charge, why: why}
+}
+
+// demand gives up unless what a packing must be is so.
+func (r *reader) demand(ok bool) {
+	if !ok {
+		panic(r.why)
+	}
 }
 
 // next hands out the next n bits, counted from 0, the lowest of each byte first. Only what is handed out is taken: a loop that ends early leaves the rest to the next one.
 func (r *reader) next(n int) iter.Seq2[int, int] {
 	return func(yield func(int, int) bool) {
 		for i := range n {
+			r.charge(1)
 			r.take(1)
 			bit := int(r.packed[r.at/8]>>(r.at%8)) & 1
 			r.at++

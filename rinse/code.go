@@ -32,6 +32,12 @@ func newCode(lengths []int) code {
 	return c
 }
 
+// code is newCode, charged.
+func (r *reader) code(lengths []int) code {
+	r.charge(len(lengths))
+	return newCode(lengths)
+}
+
 // isWhole tells whether the signs are 1 together, counted in parts of 2 to the power of minus maxLength.
 func (c code) isWhole() bool {
 	sum := 0
@@ -63,5 +69,5 @@ func (r *reader) sign(c code) int {
 		above -= count
 		shorter += count
 	}
-	panic(refusal{errno: ErrPacked})
+	panic(r.why)
 }

@@ -66,24 +66,27 @@ func TestCheckDamaged(t *testing.T) {
 	}
 }
 
-// TestCheckGivesUp: Check would hide a fault of its own as a refusal.
-func TestCheckGivesUp(t *testing.T) {
+// TestRinseGivesUp: Check and Rinse would hide a fault of their own as a refusal.
+func TestRinseGivesUp(t *testing.T) {
 	for file := range damaged(t) {
-		if what := fault(func() { write(readDocument(file)) }); what != nil {
+		if what := fault(func() { rinse(file, greatest()) }); what != nil {
 			t.Errorf("P1: %.300q: %v", file, what)
 		}
 	}
 }
 
-// TestWrittenAgain: what is written of a file is right, and is written again as it is.
+// TestWrittenAgain: what is written of a file is right, and is written again as it is (P6).
 func TestWrittenAgain(t *testing.T) {
 	for file := range damaged(t) {
-		written, again := "", ""
-		if why := answer(func() { written = write(readDocument(file)) }); why.errno != OK {
+		written, errno, _ := Rinse(file, greatest())
+		if clean := errno == OK && written == file; Clean(file) != clean {
+			t.Errorf("P6: %.300q: clean is %v", file, !clean)
+		}
+		if errno != OK {
 			continue
 		}
-		if why := answer(func() { again = write(readDocument(written)) }); why.errno != OK || again != written {
-			t.Errorf("%.300q: %.300q: %v, %.300q", file, written, why, again)
+		if again, e, place := Rinse(written, greatest()); again != written || e != OK || place != 0 || !Clean(written) {
+			t.Errorf("P6: %.300q: %.300q: %.300q, %d, %d", file, written, again, e, place)
 		}
 	}
 }

@@ -39,7 +39,7 @@ func TestCheckOverlapOfDigits(t *testing.T) {
 
 // TestCheckOneByteInCommon: the last byte of one is the first of the other.
 func TestCheckOneByteInCommon(t *testing.T) {
-	d := &document{objects: []object{{}, {place: 5, end: 10}, {place: 9, end: 12}}}
+	d := &document{objects: []object{{}, {place: 5, end: 10}, {place: 9, end: 12}}, charge: free}
 	if why := answer(d.refuseOverlaps); why != (refusal{ErrOverlap, 2}) {
 		t.Errorf("P2: a byte in common: %v", why)
 	}

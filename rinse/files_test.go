@@ -38,13 +38,28 @@ func packedText(number int, packed string) string {
 	return strconv.Itoa(number) + "<</Type/Text/F/Z>>~" + strconv.Itoa(len(packed)) + ":" + packed + ";"
 }
 
-// wantCheck: Check answers that, and again.
+// enough is how many steps are great enough for a file (P4).
+func enough(file string) int { return 1000*min(len(file), 9000) + 60000000 }
+
+// wantCheck: Check answers that, and again; Rinse answers it too, beside limits that are great enough.
 func wantCheck(t *testing.T, what, file string, errno Errno, place int) {
 	t.Helper()
 	for range 2 {
 		if e, at := Check(file); e != errno || at != place {
 			t.Errorf("P2: %s: %.300q: %d, %d, want %d, %d", what, file, e, at, errno, place)
 		}
+	}
+	out := 0
+	if errno == OK {
+		out = 9000
+	}
+	for _, l := range []Limits{{100000000, 9000}, {enough(file), out}} {
+		if written, e, at := Rinse(file, l); e != errno || at != place || (written != "") != (errno == OK) {
+			t.Errorf("P4: %s: %.300q, %v: %.300q, %d, %d, want %d, %d", what, file, l, written, e, at, errno, place)
+		}
+	}
+	if errno != OK && Clean(file) {
+		t.Errorf("P6: %s: %.300q is clean", what, file)
 	}
 }
 

@@ -49,6 +49,7 @@ func (d *document) rules(typeName string) []rule {
 
 func (d *document) referenceTo(typeName string) func(value) (value, bool) {
 	return func(v value) (value, bool) {
+		d.charge(1)
 		return v, v.kind == referenceValue && d.typeOf(v.reference) == typeName
 	}
 }
@@ -88,11 +89,14 @@ type field struct {
 func (d *document) reached() iter.Seq2[int, kept] {
 	return func(yield func(int, kept) bool) {
 		olds := []int{d.root}
+		news := map[int]int{d.root: 1}
 		newNumber := func(old int) int {
-			if !slices.Contains(olds, old) {
+			d.charge(1)
+			if _, known := news[old]; !known {
 				olds = append(olds, old)
+				news[old] = len(olds)
 			}
-			return slices.Index(olds, old) + 1
+			return news[old]
 		}
 		for i := 0; i < len(olds); i++ {
 			if !yield(i+1, d.keep(d.objects[olds[i]], newNumber)) {

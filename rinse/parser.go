@@ -19,7 +19,7 @@ type object struct {
 }
 
 // readObject takes the object of that number; if the table has none, it is one without a value.
-func readObject(file string, t table, number int) object {
+func readObject(file string, t table, number int, charge func(int)) object {
 	place := t.places[number-1]
 	if place == 0 {
 		return object{}
@@ -28,7 +28,7 @@ func readObject(file string, t table, number int) object {
 	if place < len(head) || place >= t.at {
 		giveUp(place)
 	}
-	p := parser{scanner: scanner{file, place, t.at, giveUp}}
+	p := parser{scanner: scanner{file, place, t.at, giveUp, charge}}
 	o := p.object(number)
 	if p.tooDeep > 0 {
 		refuse(ErrNest, p.tooDeep)

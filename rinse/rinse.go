@@ -26,8 +26,8 @@ type Limits struct{ Steps, Out int }
 
 // Check tells what is wrong with a file (P2).
 func Check(file string) (Errno, int) {
-	why := answer(func() { write(readDocument(file)) })
-	return why.errno, why.place
+	_, errno, place := Rinse(file, greatest())
+	return errno, place
 }
 
 // Unpack tells what a packing stands for (P3).
@@ -35,11 +35,35 @@ func Unpack(packed string) (string, Errno) {
 	if len(packed) > maxFile {
 		return "", ErrLong
 	}
-	return unpackOrRefuse(packed)
+	plain := ""
+	why := answer(func() { plain = unpack(packed, free, refusal{errno: ErrPacked}) })
+	if why.errno != OK {
+		return "", ErrPacked // whatever the reason: what is not known to be a packing is none
+	}
+	return plain, OK
 }
 
 // Rinse writes what is kept of a file (P4).
-func Rinse(file string, l Limits) (string, Errno, int) { return "", 0, 0 }
+func Rinse(file string, l Limits) (string, Errno, int) {
+	written := ""
+	why := answer(func() { written = rinse(file, l) })
+	return written, why.errno, why.place
+}
+
+// rinse gives up with the first error that applies.
+func rinse(file string, l Limits) string {
+	if !l.mayBe() {
+		refuse(ErrArg, 0)
+	}
+	charge := allowance(l.Steps, refusal{errno: ErrSteps})
+	room := allowance(l.Out, refusal{errno: ErrOut})
+	written := write(readDocument(file, charge))
+	room(len(written)) // only now is it known that there is no error, beside which the room would not matter
+	return written
+}
 
 // Clean tells whether a file is as Rinse writes it (P6).
-func Clean(file string) bool { return false }
+func Clean(file string) bool {
+	written, errno, _ := Rinse(file, greatest())
+	return errno == OK && written == file
+}

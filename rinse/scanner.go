@@ -8,10 +8,12 @@ type scanner struct {
 	at     int             // the place of the next byte
 	end    int             // the place behind the last byte that may be taken
 	giveUp func(place int) // at a byte that must not stand there
+	charge func(int)       // for each look at a byte
 }
 
 // peek tells the next byte, and gives up if there is none.
 func (s *scanner) peek() byte {
+	s.charge(1)
 	if s.at == s.end {
 		s.giveUp(s.end)
 	}

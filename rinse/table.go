@@ -9,14 +9,15 @@ type table struct {
 	root   int   // the number of the root
 }
 
-func readTable(file string) table {
+func readTable(file string, charge func(int)) table {
 	giveUp := func(int) { refuse(ErrTable, 0) }
+	charge(len(file))
 	// A table has this word at its beginning and nowhere else: if there is one, it begins at the last.
 	at := strings.LastIndex(file, "xref ")
 	if at < 0 {
 		giveUp(0)
 	}
-	s := scanner{file, at, len(file), giveUp}
+	s := scanner{file, at, len(file), giveUp, charge}
 	t := table{at: at}
 	count := s.line("xref ", 1, maxObjects)
 	for range count {

@@ -50,31 +50,15 @@ type unpacker struct {
 	room  func(int) // gives up when more comes out than may
 }
 
-// unpackOrRefuse takes whatever unpack gives up with for the one error: what is not known to be a packing is none.
-func unpackOrRefuse(packed string) (string, Errno) {
-	plain := ""
-	if why := answer(func() { plain = unpack(packed) }); why.errno != OK {
-		return "", ErrPacked
-	}
-	return plain, OK
-}
-
-// unpack gives up at what is no packing or stands for too much.
-func unpack(packed string) string {
-	u := unpacker{reader: newReader(packed), room: allowance(maxPlain, ErrPacked)}
+// unpack gives up, with why, at what is no packing or stands for too much.
+func unpack(packed string, charge func(int), why refusal) string {
+	u := unpacker{reader: newReader(packed, charge, why), room: allowance(maxPlain, why)}
 	for last := false; !last; {
 		last = u.number(1) == 1
 		u.block()
 	}
-	demand(u.atEnd())
+	u.demand(u.atEnd())
 	return string(u.plain)
-}
-
-// demand gives up unless what a packing must be is so.
-func demand(ok bool) {
-	if !ok {
-		refuse(ErrPacked, 0)
-	}
 }
 
 func (u *unpacker) block() {
@@ -82,15 +66,16 @@ func (u *unpacker) block() {
 	case storedBlock:
 		u.stored()
 	case fixedBlock:
-		u.signs(fixedCodes())
+		u.signs(u.fixedCodes())
 	case ownBlock:
 		u.signs(u.ownCodes())
 	default:
-		refuse(ErrPacked, 0)
+		panic(u.why)
 	}
 }
 
 func (u *unpacker) put(b byte) {
+	u.charge(1)
 	u.room(1)
 	u.plain = append(u.plain, b)
 }
@@ -98,7 +83,7 @@ func (u *unpacker) put(b byte) {
 func (u *unpacker) stored() {
 	u.skipToByte()
 	length := u.number(16)
-	demand(u.number(16) == length^0xffff)
+	u.demand(u.number(16) == length^0xffff)
 	for range length {
 		u.put(byte(u.number(8)))
 	}
@@ -121,32 +106,32 @@ func (u *unpacker) signs(c codes) {
 }
 
 func (r *reader) copyLength(sign int) int {
-	demand(sign < len(copyBase))
+	r.demand(sign < len(copyBase))
 	return copyBase[sign] + r.number(copyBits[sign])
 }
 
 func (r *reader) distance(sign int) int {
-	demand(sign < len(distanceBase))
+	r.demand(sign < len(distanceBase))
 	return distanceBase[sign] + r.number(distanceBits[sign])
 }
 
 // copyBack goes byte by byte, as a copy may reach into what it puts itself.
 func (u *unpacker) copyBack(length, distance int) {
-	demand(distance <= len(u.plain))
+	u.demand(distance <= len(u.plain))
 	for range length {
 		u.put(u.plain[len(u.plain)-distance])
 	}
 }
 
 // fixedCodes also have codes for signs that must not occur: without them the others would have other bits.
-func fixedCodes() codes {
+func (r *reader) fixedCodes() codes {
 	bytes := slices.Concat(
 		slices.Repeat([]int{8}, 144),
 		slices.Repeat([]int{9}, 112),
 		slices.Repeat([]int{7}, 24),
 		slices.Repeat([]int{8}, 8),
 	)
-	return codes{newCode(bytes), newCode(slices.Repeat([]int{5}, 32))}
+	return codes{r.code(bytes), r.code(slices.Repeat([]int{5}, 32))}
 }
 
 // ownCodes takes the codes that stand at the head of a block.
@@ -154,12 +139,12 @@ func (r *reader) ownCodes() codes {
 	byteLengths := endSign + 1 + r.number(5)
 	distanceLengths := 1 + r.number(5)
 	told := 4 + r.number(4)
-	demand(byteLengths <= maxByteLengths && distanceLengths <= maxDistanceLengths)
+	r.demand(byteLengths <= maxByteLengths && distanceLengths <= maxDistanceLengths)
 	lengths := r.lengths(r.codeOfLengths(told), byteLengths+distanceLengths)
-	c := codes{newCode(lengths[:byteLengths]), newCode(lengths[byteLengths:])}
-	demand(lengths[endSign] > 0)
-	demand(c.bytes.isWhole() || c.bytes.isSingle())
-	demand(c.distances.isWhole() || c.distances.isSingle() || c.distances.isEmpty())
+	c := codes{r.code(lengths[:byteLengths]), r.code(lengths[byteLengths:])}
+	r.demand(lengths[endSign] > 0)
+	r.demand(c.bytes.isWhole() || c.bytes.isSingle())
+	r.demand(c.distances.isWhole() || c.distances.isSingle() || c.distances.isEmpty())
 	return c
 }
 
@@ -169,8 +154,8 @@ func (r *reader) codeOfLengths(told int) code {
 	for i := range told {
 		lengths[lengthOrder[i]] = r.number(3)
 	}
-	c := newCode(lengths[:])
-	demand(c.isWhole())
+	c := r.code(lengths[:])
+	r.demand(c.isWhole())
 	return c
 }
 
@@ -181,7 +166,7 @@ func (r *reader) lengths(c code, count int) []int {
 		length, times := r.sign(c), 1
 		switch length {
 		case lengthAgain:
-			demand(len(lengths) > 0)
+			r.demand(len(lengths) > 0)
 			length, times = lengths[len(lengths)-1], 3+r.number(2)
 		case fewNone:
 			length, times = 0, 3+r.number(3)
@@ -192,6 +177,6 @@ func (r *reader) lengths(c code, count int) []int {
 			lengths = append(lengths, length)
 		}
 	}
-	demand(len(lengths) == count)
+	r.demand(len(lengths) == count)
 	return lengths
 }

@@ -428,7 +428,7 @@ func TestUnpackTurnedBits(t *testing.T) {
 // TestUnpackGivesUp: Unpack would hide a fault of its own as a refusal.
 func TestUnpackGivesUp(t *testing.T) {
 	for packed := range broken(t) {
-		if what := fault(func() { unpack(packed) }); what != nil {
+		if what := fault(func() { unpack(packed, free, refusal{errno: ErrPacked}) }); what != nil {
 			t.Errorf("P1: %x: %v", packed, what)
 		}
 	}

@@ -4,13 +4,14 @@ import "strconv"
 
 // writer is a file on its way.
 type writer struct {
-	text []byte
-	room func(int) // gives up when more is written than may be
+	text   []byte
+	room   func(int) // gives up when more is written than may be
+	charge func(int) // for each byte
 }
 
 // write writes what is kept of a document anew.
 func write(d *document) string {
-	w := writer{room: allowance(maxFile, ErrBig)}
+	w := writer{room: allowance(maxFile, refusal{errno: ErrBig}), charge: d.charge}
 	w.put(head)
 	var places []int
 	for number, k := range d.reached() {
@@ -23,6 +24,7 @@ func write(d *document) string {
 
 func (w *writer) put(texts ...string) {
 	for _, text := range texts {
+		w.charge(len(text))
 		w.room(len(text))
 		w.text = append(w.text, text...)
 	}

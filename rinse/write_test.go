@@ -6,13 +6,31 @@ import (
 	"testing"
 )
 
+// wantRinse: Rinse answers that, beside place 0.
+func wantRinse(t *testing.T, what, file string, l Limits, want string, errno Errno) {
+	t.Helper()
+	if written, e, place := Rinse(file, l); written != want || e != errno || place != 0 {
+		t.Errorf("P4: %s: %.300q, %v: %.300q, %d, %d, want %.300q, %d", what, file, l, written, e, place, want, errno)
+	}
+}
+
 // wantWritten: of a file that is right, that is written; objects are laid out as they stand in it.
 func wantWritten(t *testing.T, what, file string, objects ...string) {
 	t.Helper()
-	want := fileOf(1, objects...)
-	written := ""
-	if why := answer(func() { written = write(readDocument(file)) }); why.errno != OK || written != want {
-		t.Errorf("%s: %.300q: %v, %.300q, want %.300q", what, file, why, written, want)
+	wantWhole(t, what, file, fileOf(1, objects...))
+}
+
+// wantWhole: of a file, that is written, with limits that are great enough, and again of what is written; with less room, nothing.
+func wantWhole(t *testing.T, what, file, want string) {
+	t.Helper()
+	for _, from := range []string{file, want} {
+		wantRinse(t, what, from, Limits{100000000, 9000}, want, OK)
+		wantRinse(t, what, from, Limits{enough(from), len(want)}, want, OK)
+		wantRinse(t, what, from, Limits{100000000, len(want) - 1}, "", ErrOut)
+		wantRinse(t, what, from, Limits{enough(from), 0}, "", ErrOut)
+		if Clean(from) != (from == want) {
+			t.Errorf("P6: %s: %.300q: clean is %v", what, from, from != want)
+		}
 	}
 }
 
@@ -99,7 +117,7 @@ func TestReached(t *testing.T) {
 
 // TestReachedInPart: a loop over what is reached may end early.
 func TestReachedInPart(t *testing.T) {
-	d := readDocument(fileOf(1, "1<</Type/Root/Kids[@2@3]>>;", "2<</Type/Page>>;", "3<</Type/Page>>;"))
+	d := readDocument(fileOf(1, "1<</Type/Root/Kids[@2@3]>>;", "2<</Type/Page>>;", "3<</Type/Page>>;"), free)
 	for range 2 {
 		seen := 0
 		for number := range d.reached() {
@@ -131,7 +149,7 @@ func TestEachNumber(t *testing.T) {
 			want += "." + shown
 		}
 		text := "-" + whole + "." + behind + ";"
-		p := parser{scanner: scanner{file: text, end: len(text)}}
+		p := parser{scanner: scanner{file: text, end: len(text), charge: free}}
 		got := numberText(p.number())
 		if thousandths > 0 {
 			want = "-" + want
@@ -183,6 +201,7 @@ func TestCheckBig(t *testing.T) {
 		}
 		wantCheck(t, strconv.Itoa(size)+" bytes to be written", file, OK, 0)
 		wantCheck(t, strconv.Itoa(size)+" bytes, as they are written", written, OK, 0)
+		wantWhole(t, strconv.Itoa(size)+" bytes", file, written)
 	}
 	for _, size := range []int{9001, 9002, 9500} {
 		wantCheck(t, strconv.Itoa(size)+" bytes to be written", bigFile(size), ErrBig, 0)
