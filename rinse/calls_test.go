@@ -32,3 +32,12 @@ func TestCallsAnswer(t *testing.T) {
 		Clean(s)
 	}
 }
+
+// TestErrnos: the errors are these numbers, in this order.
+func TestErrnos(t *testing.T) {
+	for i, errno := range []Errno{OK, ErrArg, ErrLong, ErrHead, ErrTable, ErrObject, ErrNest, ErrTwice, ErrOverlap, ErrPacked, ErrRoot, ErrBig, ErrSteps, ErrOut} {
+		if int(errno) != i {
+			t.Errorf("error %d is the number %d", i, errno)
+		}
+	}
+}

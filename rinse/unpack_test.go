@@ -161,19 +161,19 @@ func TestUnpackMaxFile(t *testing.T) {
 	wantErrno(t, "a million bytes", strings.Repeat("\x00", 1000000), ErrLong)
 }
 
-// TestUnpackEachLength: every length that a copy can have.
+// TestUnpackEachLength: every length that a copy can have; the byte behind it tells whether a bit too many was taken.
 func TestUnpackEachLength(t *testing.T) {
 	for length := 3; length <= 258; length++ {
-		want := strings.Repeat("xyz", 100)[:3+length]
-		wantPlain(t, "each length", new(packer).head(1, 1).fixedText("xyz").fixedCopy(length, 3).fixedEnd().String(), want)
+		want := strings.Repeat("xyz", 100)[:3+length] + "\xff"
+		wantPlain(t, "each length", new(packer).head(1, 1).fixedText("xyz").fixedCopy(length, 3).fixedText("\xff").fixedEnd().String(), want)
 	}
 }
 
-// TestUnpackEachDistance: every distance that can be within 2000 bytes, and those that go beyond what has come out.
+// TestUnpackEachDistance: every distance that can be within 2000 bytes, with a byte behind the copy as above, and those that go beyond what has come out.
 func TestUnpackEachDistance(t *testing.T) {
-	ahead := textOf(1997)
+	ahead := textOf(1996)
 	for distance := 1; distance <= 32768; distance += 1 + distance/2500*100 {
-		packed := new(packer).stored(0, ahead).head(1, 1).fixedCopy(3, distance).fixedEnd().String()
+		packed := new(packer).stored(0, ahead).head(1, 1).fixedCopy(3, distance).fixedText("\xff").fixedEnd().String()
 		if distance > len(ahead) {
 			wantErrno(t, "a distance beyond what has come out", packed, ErrPacked)
 			continue
@@ -182,7 +182,7 @@ func TestUnpackEachDistance(t *testing.T) {
 		for range 3 {
 			want += want[len(want)-distance:][:1]
 		}
-		wantPlain(t, "each distance", packed, want)
+		wantPlain(t, "each distance", packed, want+"\xff")
 	}
 	wantErrno(t, "a copy of nothing", new(packer).head(1, 1).fixedCopy(3, 1).fixedEnd().String(), ErrPacked)
 	wantErrno(t, "a byte beyond", new(packer).head(1, 1).fixedText("ab").fixedCopy(3, 3).fixedEnd().String(), ErrPacked)
@@ -364,6 +364,7 @@ func TestUnpackRuns(t *testing.T) {
 		{"the shortest short run of none", 257, 1, []run{{18, 138}, {18, 112}, {17, 3}, {2, 0}, {2, 0}, {2, 0}, {2, 0}, {0, 0}}, four, fourPlain},
 		{"the longest short run of none", 257, 1, []run{{17, 10}, {18, 138}, {18, 105}, {2, 0}, {2, 0}, {2, 0}, {2, 0}, {0, 0}}, four, fourPlain},
 		{"a length again", 257, 1, []run{{18, 138}, {18, 115}, {2, 0}, {16, 3}, {0, 0}}, four, fourPlain},
+		{"again behind the first length", 257, 1, []run{{0, 0}, {16, 6}, {18, 138}, {18, 108}, {2, 0}, {2, 0}, {2, 0}, {2, 0}, {0, 0}}, four, fourPlain},
 		{"none again, behind a run", 257, 1, []run{{18, 138}, {18, 109}, {16, 6}, {2, 0}, {2, 0}, {2, 0}, {2, 0}, {0, 0}}, four, fourPlain},
 		{"again behind again", 257, 4, []run{{18, 138}, {18, 115}, {2, 0}, {16, 3}, {16, 4}}, four, fourPlain},
 		{"again, on into the distances", 257, 4, []run{{18, 138}, {18, 115}, {2, 0}, {16, 6}, {2, 0}}, four, fourPlain},
